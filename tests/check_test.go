@@ -45,6 +45,8 @@ func shownOne(value any) string {
 		return shownList(v)
 	case []int64:
 		return shownList(v)
+	case [][]float32:
+		return shownList(v)
 	case string:
 		return fmt.Sprintf("%q", v)
 	}

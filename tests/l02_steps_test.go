@@ -192,10 +192,12 @@ func TestMeansShared(t *testing.T) {
 	expect(t, "means shared", shown(means, ok), "[3f800000 40400000 42b395c3 3dcccccd] true")
 }
 
-func TestWorkersAreJoined(t *testing.T) {
+// expectJoined holds the goroutines behind some calls against those before.
+func expectJoined(t *testing.T, call func()) {
+	t.Helper()
 	before := runtime.NumGoroutine()
 	for range 100 {
-		impl.MeansShared([][]float32{wavy(), steep(), {3e38, 3e38}, nil, tiny()}, impl.MaxWorkers)
+		call()
 	}
 	// A goroutine that has told its end may count for a moment.
 	for range 100 {
@@ -205,6 +207,12 @@ func TestWorkersAreJoined(t *testing.T) {
 		time.Sleep(10 * time.Millisecond)
 	}
 	t.Errorf("%d goroutines behind the calls, %d before them", runtime.NumGoroutine(), before)
+}
+
+func TestWorkersAreJoined(t *testing.T) {
+	expectJoined(t, func() {
+		impl.MeansShared([][]float32{wavy(), steep(), {3e38, 3e38}, nil, tiny()}, impl.MaxWorkers)
+	})
 }
 
 func TestWrongMeansShared(t *testing.T) {
