@@ -47,6 +47,10 @@ func shownOne(value any) string {
 		return shownList(v)
 	case [][]float32:
 		return shownList(v)
+	case impl.Shares:
+		return shown(v.Level, v.Slope, v.Season, v.Damp)
+	case impl.State:
+		return shown(v.Level, v.Slope, v.Season, v.At)
 	case string:
 		return fmt.Sprintf("%q", v)
 	}

@@ -270,12 +270,16 @@ func TestWavesAreFound(t *testing.T) {
 
 func expectNear(t *testing.T, what string, got, want []float32) {
 	t.Helper()
-	size := lengthOf(want)
+	expectWithin(t, what, got, want, 0.000001*lengthOf(want))
+}
+
+func expectWithin(t *testing.T, what string, got, want []float32, slack float64) {
+	t.Helper()
 	if len(got) != len(want) {
 		t.Fatalf("%s: got %d numbers, want %d", what, len(got), len(want))
 	}
 	for i := range want {
-		if !(math.Abs(float64(got[i])-float64(want[i])) <= 0.000001*size) {
+		if !(math.Abs(float64(got[i])-float64(want[i])) <= slack) {
 			t.Errorf("%s: place %d: got %g, want %g", what, i, got[i], want[i])
 		}
 	}
