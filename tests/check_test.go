@@ -51,6 +51,12 @@ func shownOne(value any) string {
 		return shown(v.Level, v.Slope, v.Season, v.Damp)
 	case impl.State:
 		return shown(v.Level, v.Slope, v.Season, v.At)
+	case impl.Level:
+		return shown(v.Mean, v.Spread, v.Noise, v.Drift)
+	case impl.Trend:
+		return shown(v.Level, v.Slope, v.A, v.B, v.C, v.Noise, v.Drift, v.Turn)
+	case impl.Regimes:
+		return shown(v.Means, v.Spreads, v.Starts, v.Steps)
 	case string:
 		return fmt.Sprintf("%q", v)
 	}
